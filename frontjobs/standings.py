@@ -8,6 +8,21 @@ START = ("none", 0, "shell", "plain", -1, 0, ())
 MODES = ("plain", "raw")
 STATES = ("runs", "stopped", "ended")
 
+# Where the items of a STANDING stand in it; those of a JOB come next. PLACE is the same in both.
+SCRIPT = 0
+PLACE = 1
+FRONT = 2
+MODE = 3
+HAND = 4
+MADE = 5
+JOBS = 6
+
+KIND = 0
+OWN = 2
+STATE = 3
+NOTICE = 4
+HELD = 5
+
 
 def is_whole(thing):
     """Whether anything is an integer; True and False are none."""
@@ -71,12 +86,17 @@ def place_bound(setup, script):
     return len(setup[2][SCRIPTS.index(script)])
 
 
+def may_be_front(job):
+    """Whether the NUMBER of this JOB may be FRONT."""
+    return job[OWN] and job[STATE] != "ended"
+
+
 def is_front(jobs, thing):
     """Whether anything is a FRONT beside these JOBS."""
     if is_word(thing, ("shell", "nobody")):
         return True
     job = find_job(jobs, thing)
-    return job is not None and job[2] and job[3] != "ended"
+    return job is not None and may_be_front(job)
 
 
 def is_hand(script, jobs, thing):
@@ -123,10 +143,22 @@ def need_standing(setup, thing):
     return thing
 
 
+def stands_in_front(standing, number, job):
+    """Whether the job of a STANDING with this NUMBER IS IN FRONT."""
+    if job[OWN]:
+        return standing[FRONT] == number
+    return standing[FRONT] == "shell"
+
+
+def stands_meant(standing, number):
+    """Whether the job of a STANDING with this NUMBER is MEANT."""
+    return standing[HAND] == number and standing[SCRIPT] in ("fore", "front")
+
+
 def job_of(setup, standing, number):
     """The JOB with this NUMBER; Missing of what is no NUMBER in JOBS."""
     need_standing(setup, standing)
-    job = find_job(standing[6], number)
+    job = find_job(standing[JOBS], number)
     if job is None:
         raise Missing(number)
     return job
@@ -134,15 +166,10 @@ def job_of(setup, standing, number):
 
 def is_in_front(setup, standing, number):
     """Whether the job with this NUMBER IS IN FRONT; Missing of what is no NUMBER in JOBS."""
-    job = job_of(setup, standing, number)
-    front = standing[2]
-    if job[2]:
-        return front == number
-    return front == "shell"
+    return stands_in_front(standing, number, job_of(setup, standing, number))
 
 
 def is_meant(setup, standing, number):
     """Whether the job with this NUMBER is MEANT; Missing of what is no NUMBER in JOBS."""
     job_of(setup, standing, number)
-    script, hand = standing[0], standing[4]
-    return hand == number and script in ("fore", "front")
+    return stands_meant(standing, number)

@@ -58,6 +58,29 @@ def read_names(tree):
     return [node.id for node in ast.walk(tree) if isinstance(node, ast.Name) and isinstance(node.ctx, ast.Load)]
 
 
+def is_set(node):
+    if isinstance(node, ast.Call):
+        return isinstance(node.func, ast.Name) and node.func.id in ("set", "frozenset")
+    return isinstance(node, (ast.Set, ast.SetComp))
+
+
+def stored_sets(function):
+    """The local names that a function gives to sets."""
+    assigned = [node for node in ast.walk(function) if isinstance(node, ast.Assign) and is_set(node.value)]
+    return [target.id for node in assigned for target in node.targets]
+
+
+def set_uses(node):
+    """What in this node is a stored set if it is used as one may be."""
+    if isinstance(node, ast.Expr) and isinstance(node.value, ast.Call) and isinstance(node.value.func, ast.Attribute):
+        return [node.value.func.value] if node.value.func.attr in ("add", "discard") else []
+    if isinstance(node, ast.Compare) and isinstance(node.ops[0], (ast.In, ast.NotIn)):
+        return node.comparators
+    if isinstance(node, ast.Call) and isinstance(node.func, ast.Name) and node.func.id in ("len", "sorted"):
+        return node.args
+    return []
+
+
 class Language(unittest.TestCase):
 
     def setUp(self):
@@ -123,6 +146,51 @@ class Language(unittest.TestCase):
                 self.assertRegex(word, r"^([A-Za-z][A-Za-z0-9_]*|__[a-z]+__)$", name)
             self.assertEqual([word for word in bound if word in UNUSED + BUILTINS], [], name)
             self.assertEqual([word for word in read_names(tree) if word not in bound + BUILTINS], [], name)
+
+    def test_no_name_of_an_import_or_a_class_means_something_else(self):
+        for name, _, tree in self.files:
+            taken = [alias.name for node in tree.body if isinstance(node, ast.ImportFrom) for alias in node.names]
+            taken += [node.name for node in tree.body if isinstance(node, ast.ClassDef)]
+            for node in ast.walk(tree):
+                if isinstance(node, ast.FunctionDef):
+                    inside = [word for statement in node.body for word in bound_names(statement)]
+                    inside += bound_names(node.args)
+                    self.assertEqual([word for word in inside if word in taken], [], f"{name} {node.name}")
+
+    def test_each_name_is_bound_once_and_each_import_is_used(self):
+        for name, _, tree in self.files:
+            bound = []
+            for node in tree.body:
+                if isinstance(node, ast.ImportFrom):
+                    imported = [alias.name for alias in node.names]
+                    self.assertEqual([word for word in imported if word not in read_names(tree)], [], name)
+                    bound += imported
+                elif isinstance(node, (ast.FunctionDef, ast.ClassDef)):
+                    bound.append(node.name)
+                elif isinstance(node, ast.Assign):
+                    bound.append(node.targets[0].id)
+            self.assertEqual(sorted(bound), sorted(set(bound)), name)
+
+    def test_no_two_files_import_from_each_other(self):
+        above = {}
+        for name, _, tree in self.files:
+            module = name[:-3].replace(os.sep, ".")
+            above[module] = [node.module for node in tree.body if isinstance(node, ast.ImportFrom)]
+        while above:
+            free = [module for module, needs in above.items() if not any([need in above for need in needs])]
+            self.assertNotEqual(free, [], above)
+            for module in free:
+                del above[module]
+
+    def test_stored_sets(self):
+        # L24: assigned once, then added to, asked with "in", counted or sorted, and nothing else.
+        for name, _, tree in self.files:
+            for function in ast.walk(tree):
+                if isinstance(function, ast.FunctionDef):
+                    for word in stored_sets(function):
+                        uses = [node for node in ast.walk(function) if isinstance(node, ast.Name) and node.id == word]
+                        allowed = [use for node in ast.walk(function) for use in set_uses(node)]
+                        self.assertEqual(len([use for use in uses if use not in allowed]), 1, f"{name} {word}")
 
     def test_methods(self):
         own = [node.name for _, _, tree in self.files for node in ast.walk(tree) if isinstance(node, ast.FunctionDef)]
