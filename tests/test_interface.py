@@ -14,6 +14,14 @@ FUNCTIONS = {
     "rows": [
         "is_row(setup, thing)", "row_of(setup, standing)", "covers(setup, row, standing)",
         "is_under(setup, row, other)", "behind(setup, row)"],
+    "tables": [
+        "is_table(setup, thing)", "is_closed(setup, thing)", "bars(setup, wrong, thing)", "table(setup)",
+        "lean(setup, thing)"],
+    "deciding": [
+        "can_come(setup, wrong)", "fewest(setup, wrong)", "paper(setup, wrong)", "check_paper(setup, wrong, paper)",
+        "wrongs_of(setup)"],
+    "mends": ["mends(setup)", "gains(setup, shell)", "mended(setup, wrong)", "rules_for(setup, wrong)",
+              "quietest(setup)"],
 }
 
 VALUES = {"setups": ["ACTS", "STEPS", "SCRIPTS", "WRONGS"], "standings": ["START"], "plays": ["MOST_PLAY"]}

@@ -1,0 +1,49 @@
+"""SETUPs that the tests of TABLEs, PAPERs and MENDs use; each has just what its name says."""
+
+SHELL = (("group", "give", "listen", "take"), ("group",), ("give", "go", "listen", "take"), ("go",))
+WORKED = ((("read",),), ("stop", "go", "stop"), SHELL)
+
+# The largest SETUPs of which the interface promises something: 4 ACTs, 3 with "front", and 8 STEPs; 1 ACT and 10 STEPs.
+LARGEST = {
+    "three kinds in front": (
+        (("front",), ("raw",), ("front",)), ("stop", "go", "go"),
+        ((), ("group", "give", "plain", "plain"), (), ("give", "plain", "take", "take"))),
+    "one kind in front": (
+        (("front", "raw", "plain"),), ("fail", "go", "go"),
+        ((), (), ("take", "give", "plain", "plain", "plain", "go"), ("give", "group"))),
+    "three jobs": (
+        (("front",), ("read",), ("raw",)), ("stop", "stop", "go"),
+        (("plain",), ("listen",), (), ("give", "group", "group", "group", "give", "give"))),
+    "many modes": (
+        (("raw",), ("plain", "raw"), ("write",)), ("fail", "go", "stop"),
+        ((), (), ("give", "group", "group", "group"), ("give", "give", "group", "take"))),
+    "a long way": (
+        (("group", "plain", "write", "raw"),), ("fail", "go", "stop"),
+        (("listen",), ("listen",), (), ("give", "take", "give", "plain", "take", "go"))),
+    "ten steps": (
+        (("front",),), ("stop", "stop", "go"),
+        (("group", "give", "listen"), ("group", "go"), ("give", "go", "wait", "take"), ("go",))),
+}
+
+SETUPS = {
+    "worked": WORKED,
+    "never takes the front back": ((("read",),), ("stop", "go", "stop"), (("group", "give", "listen"),) + SHELL[1:]),
+    "does nothing": ((("read", "hold"),), ("stop", "go", "stop"), ((), (), (), ())),
+    "gives the front away": ((("again",),), ("fail", "go", "go"), (("group", "give"), ("group",), ("give",), ())),
+    "waits": ((("read",),), ("stop", "go", "stop"), (("group", "give", "wait", "take"), ("group",), ("wait",), ())),
+    "raw and writing behind": ((("raw", "write"),), ("stop", "go", "stop"), SHELL),
+    "raw by one, written by another": ((("raw",), ("write",)), ("stop", "go", "stop"), SHELL),
+    "written plain": ((("raw",), ("write",)), ("stop", "go", "stop"), (
+        ("group", "give", "listen", "take", "plain"), ("group",), ("give", "listen", "take", "plain"), ())),
+    "takes the front": ((("group", "front"),), ("stop", "go", "go"), (("listen", "take"), (), ("go",), ())),
+    "held": ((("hold", "read"),), ("stop", "stop", "stop"), SHELL),
+    "waits to read": ((("read",),), ("wait", "go", "stop"), SHELL),
+    "three kinds": ((("read",), ("raw",), ("write",)), ("stop", "stop", "go"), SHELL),
+    "stuck": ((("again",),), ("stop", "go", "stop"), (("wait",), ("wait",), (), ())),
+    "three jobs, few steps": ((("front", "write", "plain"),), ("fail", "stop", "go"), (("give",), ("group", "give"), (), ())),
+    "three jobs, four steps": (
+        (("front", "write", "group"),), ("wait", "stop", "go"), (("wait",), ("take",), (), ("group", "give"))),
+    "counted jobs": (
+        (("group", "front", "again"),), ("fail", "go", "go"),
+        (("plain",), ("wait", "go", "plain"), ("go",), ("listen", "wait", "group"))),
+}
