@@ -35,6 +35,16 @@ def is_code(front):
     return isinstance(front, int)
 
 
+def crew_behind(crew, word, actor, freed):
+    """The CREW behind a MOVE, as the ascending tuple of its CODEs."""
+    if isinstance(actor, int) and word not in KIND_WORDS:
+        at = crew.index(actor)
+        crew = crew[:at] + crew[at + 1:]
+    elif not freed:
+        return crew
+    return tuple(sorted(crew + freed))
+
+
 def is_quiet(lead, outcome):
     """Whether this outcome for one of the CREW changes nothing of the LEAD."""
     after = outcome[2]

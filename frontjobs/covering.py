@@ -17,7 +17,7 @@ def is_within(anys, counts, other_anys, other_counts):
     return True
 
 
-def crew_behind(anys, counts, actor, freed):
+def counts_behind(anys, counts, actor, freed):
     """The COUNTS behind a MOVE; of any many there are any many behind it."""
     left = {code: counts[code] for code in counts}
     if actor in left:
@@ -77,7 +77,7 @@ class CoverTree:
             self.note(wrong)
         for word, actor, wrong, behind, freed in moves_at(self.coder, node.lead, leavers, node.counts):
             self.note(wrong)
-            counts = crew_behind(node.anys, node.counts, actor, freed)
+            counts = counts_behind(node.anys, node.counts, actor, freed)
             self.add_node(behind, node.anys, counts, node)
 
     def grow(self, lead, anys, counts, before):

@@ -1,6 +1,6 @@
 """The search for RUNs with the fewest jobs, and of those with the fewest EVENTs."""
 
-from frontjobs.coding import START_LEAD
+from frontjobs.coding import START_LEAD, crew_behind
 from frontjobs.events import KIND_WORDS, LONE_WORDS, behind_event
 from frontjobs.standings import FRONT, HAND, JOBS, START
 
@@ -76,12 +76,7 @@ class Search:
         for word, actor, wrong, behind, freed in self.moves(lead, crew):
             if wrong is not None and wrong not in self.found:
                 self.found[wrong] = (self.jobs, many, place, word, actor)
-            if isinstance(actor, int) and word not in KIND_WORDS:
-                at = crew.index(actor)
-                crew_behind = crew[:at] + crew[at + 1:] + freed
-            else:
-                crew_behind = crew + freed
-            self.reach((behind, tuple(sorted(crew_behind))), many, place, word, actor)
+            self.reach((behind, crew_behind(crew, word, actor, freed)), many, place, word, actor)
 
     def reach(self, place, many, before, word, actor):
         """Keep the MOVE to a place if no other one led there with so few jobs and EVENTs."""

@@ -1,7 +1,7 @@
 """TABLEs: ROWs that no EVENT leads out of, and the WRONGS that they BAR."""
 
 from frontjobs.coding import START_LEAD, Coder, codes_in
-from frontjobs.covering import CoverTree, crew_behind, is_within, moves_at
+from frontjobs.covering import CoverTree, counts_behind, is_within, moves_at
 from frontjobs.errors import BadRow
 from frontjobs.rows import ANY_MANY, fits_row
 from frontjobs.setups import need_setup, need_wrong
@@ -103,9 +103,15 @@ def is_sealed(coder, cover, wrong):
             if wrong is not None and wrong in wrongs:
                 return False
             for word, actor, told, behind, freed in moves:
-                if not is_covered(cover, behind, anys, crew_behind(anys, counts, actor, freed)):
+                if not is_covered(cover, behind, anys, counts_behind(anys, counts, actor, freed)):
                     return False
     return True
+
+
+def is_largest(pair, pairs):
+    """Whether the CREWs of a pair are among those of none of these pairs but its own; no two of them are the same."""
+    anys, counts = pair
+    return len([other for other in pairs if is_within(anys, counts, other[0], other[1])]) == 1
 
 
 def closes(setup, thing, wrong):
@@ -114,7 +120,11 @@ def closes(setup, thing, wrong):
         return False
     coder = Coder(setup)
     cover = coded_table(coder, thing)
-    return START_LEAD in cover and is_sealed(coder, cover, wrong)
+    if START_LEAD not in cover:
+        return False
+    # What comes of fewer jobs is COVERED where what comes of more of them is.
+    largest = {lead: [pair for pair in cover[lead] if is_largest(pair, cover[lead])] for lead in cover}
+    return is_sealed(coder, largest, wrong)
 
 
 def is_table(setup, thing):
@@ -150,9 +160,7 @@ def lean(setup, thing):
     cover = coded_table(coder, thing)
     kept = []
     for row in thing:
-        lead, (anys, counts) = coded_row(coder, row)
-        # Of different ROWs no two are under one another; each is under itself.
-        over = [pair for pair in cover[lead] if is_within(anys, counts, pair[0], pair[1])]
-        if len(over) == 1:
+        lead, pair = coded_row(coder, row)
+        if is_largest(pair, cover[lead]):
             kept.append(row)
     return tuple(kept)

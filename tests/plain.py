@@ -4,6 +4,7 @@ import heapq
 
 from frontjobs.events import events_at, step
 from frontjobs.rows import behind, covers, is_under
+from frontjobs.setups import ACTS, STEPS, WRONGS
 from frontjobs.standings import START
 
 STARTS = ("fore", "back")
@@ -46,3 +47,68 @@ def closed(setup, table):
             if not any([is_under(setup, after, other) for other in rows.get(repr(key(after)), [])]):
                 sealed = False
     return sealed, words
+
+
+def is_hidden(setup, standing, event):
+    """Whether an EVENT that can be done, and is no look, is not VISIBLE."""
+    if event[0] in ("shell", "hear"):
+        return True
+    if event[0] != "job":
+        return False
+    kind, place = dict(standing[6])[event[1]][:2]
+    acts = setup[0][kind]
+    return place < len(acts) and acts[place] in ("group", "front", "hold", "again")
+
+
+def watched(setup, log):
+    """For each RUN with just these VISIBLE EVENTs, which ends with the last of them, the set of its WRONGS."""
+    now = {(START, frozenset())}
+    for seen in log:
+        waiting, known = list(now), set(now)
+        now = set()
+        while waiting:
+            standing, wrongs = waiting.pop()
+            for event in events_at(setup, standing):
+                if event[0] == "look":
+                    continue
+                after, wrong = step(setup, standing, event)
+                place = (after, wrongs | {wrong} - {None})
+                if not is_hidden(setup, standing, event):
+                    if event == seen:
+                        now.add(place)
+                elif place not in known:
+                    known.add(place)
+                    waiting.append(place)
+    return {wrongs for _, wrongs in now}
+
+
+def told(setup, log):
+    """What fits, may and must are to answer."""
+    runs = watched(setup, log)
+    if not runs:
+        return False, (), ()
+    return (True, tuple([wrong for wrong in WRONGS if any([wrong in wrongs for wrongs in runs])]),
+            tuple([wrong for wrong in WRONGS if all([wrong in wrongs for wrongs in runs])]))
+
+
+def chance_run(chance, setup, most, starts=3):
+    """A RUN of so many EVENTs, and not more jobs, that chance leads through; it seldom breaks or hears of a job."""
+    standing, run = START, []
+    while len(run) < most:
+        events = [event for event in events_at(setup, standing) if event[0] != "look"]
+        if len([event for event in run if event[0] in STARTS]) == starts:
+            events = [event for event in events if event[0] not in STARTS]
+        events = [event for event in events if event[0] not in ("break", "hear") or chance.random() < 0.2]
+        if not events:
+            break
+        run.append(chance.choice(events))
+        standing = step(setup, standing, run[-1])[0]
+    return tuple(run)
+
+
+def chance_setup(chance, acts=3, steps=3):
+    """A SETUP of KINDs with so many ACTs and SCRIPTs with so many STEPs at most."""
+    kinds = [tuple([chance.choice(ACTS) for _ in range(chance.randint(1, acts))]) for _ in range(chance.randint(1, 3))]
+    rules = (chance.choice(("stop", "fail", "wait")), chance.choice(("go", "stop")), chance.choice(("go", "stop")))
+    shell = [tuple([chance.choice(STEPS) for _ in range(chance.randint(0, steps))]) for _ in range(4)]
+    return (tuple(kinds), rules, tuple(shell))

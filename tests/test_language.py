@@ -22,6 +22,7 @@ UNUSED = """register mro elements open input law version_info with_traceback add
 METHODS = """append clear copy count endswith extend find get index insert isalnum isalpha isdigit islower isspace
     isupper items join keys ljust lower lstrip partition pop remove replace reverse rfind rjust rpartition rsplit
     rstrip setdefault split splitlines startswith strip update upper values zfill bit_length add discard sort""".split()
+DUNDERS = ("__init__", "__enter__", "__exit__", "__call__", "__len__", "__contains__", "__eq__")
 NO_NODES = (
     ast.Global, ast.AsyncFunctionDef, ast.AsyncFor, ast.AsyncWith, ast.Await, ast.Div, ast.AnnAssign,
     ast.MatchClass, ast.MatchMapping, ast.MatchValue)
@@ -137,7 +138,14 @@ class Language(unittest.TestCase):
                 self.assertIsInstance(node, allowed, f"{name}:{node.lineno}")
                 if isinstance(node, ast.Assign):
                     self.assertEqual([target.__class__ for target in node.targets], [ast.Name], name)
-                    ast.literal_eval(node.value)
+                    if isinstance(node.value, ast.Dict):
+                        # Its values may be functions that are defined above.
+                        above = [one.name for one in tree.body if isinstance(one, ast.FunctionDef) and
+                                 one.lineno < node.lineno]
+                        self.assertEqual([one.id for one in node.value.values if one.id not in above], [], name)
+                        self.assertEqual([one.__class__ for one in node.value.keys], [ast.Constant] * len(node.value.keys))
+                    else:
+                        ast.literal_eval(node.value)
 
     def test_names(self):
         for name, _, tree in self.files:
@@ -198,6 +206,42 @@ class Language(unittest.TestCase):
             for node in ast.walk(tree):
                 if isinstance(node, ast.Call) and isinstance(node.func, ast.Attribute):
                     self.assertIn(node.func.attr, METHODS + own, f"{name}:{node.lineno}")
+
+    def test_classes(self):
+        stored, methods = [], []
+        for name, _, tree in self.files:
+            for node in ast.walk(tree):
+                if isinstance(node, ast.Attribute) and isinstance(node.ctx, ast.Store):
+                    stored.append(node.attr)
+                if isinstance(node, ast.ClassDef):
+                    inside = [one for one in node.body if isinstance(one, ast.FunctionDef)]
+                    methods += [one.name for one in inside]
+                    self.assertEqual(len(inside), len(set([one.name for one in inside])), name)
+                    for one in inside:
+                        if one.name.startswith("__"):
+                            self.assertIn(one.name, DUNDERS, name)
+                        self.assertIn([ast.unparse(sign) for sign in one.decorator_list], ([], ["property"]), name)
+                elif isinstance(node, ast.Module):
+                    for one in node.body:
+                        self.assertEqual(getattr(one, "decorator_list", []), [], name)
+        # L18, and L24 and L25: those of sets and lists would bar much elsewhere.
+        self.assertEqual([word for word in methods if word in stored], [])
+        self.assertEqual([word for word in methods if word in ("add", "discard", "sort", "append", "clear")], [])
+
+    def test_no_generators(self):
+        # L7: a package with a class that has __eq__ takes lists instead.
+        for name, _, tree in self.files:
+            for node in ast.walk(tree):
+                self.assertNotIsInstance(node, (ast.GeneratorExp, ast.Yield, ast.YieldFrom), name)
+
+    def test_handlers(self):
+        # L19: own errors may be caught wherever they come from.
+        own = [node.name for _, _, tree in self.files for node in ast.walk(tree) if isinstance(node, ast.ClassDef)]
+        for name, _, tree in self.files:
+            for node in ast.walk(tree):
+                if isinstance(node, ast.ExceptHandler):
+                    caught = node.type.elts if isinstance(node.type, ast.Tuple) else [node.type]
+                    self.assertEqual([one.id for one in caught if one.id not in own], [], name)
 
     def test_nodes(self):
         for name, _, tree in self.files:
