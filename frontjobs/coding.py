@@ -62,6 +62,7 @@ class Coder:
         self.scenes = {}
         self.known_leads = {}
         self.rests = {}
+        self.louds = {}
 
     def code_of(self, job):
         """The CODE of a JOB."""
@@ -182,8 +183,12 @@ class Coder:
 
     def loud_moves(self, lead, code):
         """The list of those MOVEs of one of the CREW that at_rest does not tell."""
-        outcomes = self.outcomes_of_one(lead, code, False)
-        return [self.move_of_crew(lead, code, outcome) for outcome in outcomes if not is_quiet(lead, outcome)]
+        key = (lead, code)
+        if key not in self.louds:
+            outcomes = self.outcomes_of_one(lead, code, False)
+            self.louds[key] = [
+                self.move_of_crew(lead, code, outcome) for outcome in outcomes if not is_quiet(lead, outcome)]
+        return list(self.louds[key])
 
     def at_rest(self, lead, crew):
         """What a CREW of any many jobs does beside a LEAD without changing it.

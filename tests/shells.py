@@ -23,6 +23,12 @@ LARGEST = {
     "ten steps": (
         (("front",),), ("stop", "stop", "go"),
         (("group", "give", "listen"), ("group", "go"), ("give", "go", "wait", "take"), ("go",))),
+    "two kinds in front": (
+        (("raw",), ("front",), ("front",)), ("wait", "go", "go"),
+        (("group", "give"), ("take",), ("give", "take", "take", "take", "listen"), ())),
+    "counted at the start of many scripts": (
+        (("raw",), ("raw", "raw", "raw")), ("fail", "go", "go"),
+        (("group", "plain", "group"), (), ("give", "give", "group", "group"), ("plain",))),
 }
 
 SETUPS = {

@@ -228,6 +228,15 @@ class Language(unittest.TestCase):
         self.assertEqual([word for word in methods if word in stored], [])
         self.assertEqual([word for word in methods if word in ("add", "discard", "sort", "append", "clear")], [])
 
+    def test_attributes_are_assigned_through_a_local_name(self):
+        for name, _, tree in self.files:
+            for node in ast.walk(tree):
+                if isinstance(node, ast.Attribute) and isinstance(node.ctx, ast.Store):
+                    holder = node.value
+                    while isinstance(holder, ast.Attribute):
+                        holder = holder.value
+                    self.assertIsInstance(holder, ast.Name, f"{name}:{node.lineno}")
+
     def test_no_generators(self):
         # L7: a package with a class that has __eq__ takes lists instead.
         for name, _, tree in self.files:
