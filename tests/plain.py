@@ -3,7 +3,7 @@
 import heapq
 
 from frontjobs.events import events_at, step
-from frontjobs.rows import behind, covers, is_under
+from frontjobs.rows import behind, covers, is_under, row_of
 from frontjobs.setups import ACTS, STEPS, WRONGS
 from frontjobs.standings import START
 
@@ -47,6 +47,29 @@ def closed(setup, table):
             if not any([is_under(setup, after, other) for other in rows.get(repr(key(after)), [])]):
                 sealed = False
     return sealed, words
+
+
+def widened(row, before):
+    """The ROW with any many of what there is more of than in this one ahead of it, which is under it."""
+    shapes = dict(before[4])
+    return row[:4] + (tuple([(shape, many if shapes.get(shape) == many else 0) for shape, many in row[4]]),)
+
+
+def table(setup):
+    """The TABLE that Karp and Miller tell, without needless ROWs: there is just one."""
+    kept, waiting = [], [(row_of(setup, START), None)]
+    while waiting:
+        way = waiting.pop()
+        if any([is_under(setup, way[0], row) for row in kept]):
+            continue
+        ahead = way
+        while ahead[1] is not None:
+            ahead = ahead[1]
+            if is_under(setup, ahead[0], way[0]):
+                way = (widened(way[0], ahead[0]), way[1])
+        kept = [row for row in kept if not is_under(setup, row, way[0])] + [way[0]]
+        waiting.extend([(after, way) for after, _ in behind(setup, way[0])])
+    return tuple(sorted(kept))
 
 
 def is_hidden(setup, standing, event):

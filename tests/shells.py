@@ -53,3 +53,18 @@ SETUPS = {
         (("group", "front", "again"),), ("fail", "go", "go"),
         (("plain",), ("wait", "go", "plain"), ("go",), ("listen", "wait", "group"))),
 }
+
+# Those whose TABLEs are small, and want much: jobs of which there are only so many, or that come back in other ways.
+SMALL = {
+    "out of the front by itself": ((("raw", "group", "plain"),), ("fail", "stop", "stop"), (("give",), ("listen",), ("go",), ())),
+    "waits for what never ends": ((("again",),), ("stop", "stop", "go"), (("wait",), ("listen", "go"), (), ())),
+    "puts itself in front": ((("group", "front", "hold"),), ("stop", "go", "go"), (("wait",), ("wait",), ("go", "plain"), ())),
+    "in front without a group": ((("raw", "front"),), ("fail", "go", "stop"), (("listen", "plain"), (), (), ())),
+    "only what stops in front": (
+        (("group", "group", "front"),), ("stop", "stop", "stop"), ((), ("give", "listen", "take"), (), ())),
+    "no step at all": ((("raw", "group"),), ("wait", "go", "stop"), ((), (), (), ())),
+    "once and again": (
+        (("again", "raw", "front"),), ("fail", "stop", "stop"),
+        (("listen",), ("plain", "group", "give"), ("go", "give"), ())),
+    "stays in front": ((("group", "front", "raw"),), ("stop", "go", "go"), ((), (), (), ())),
+}

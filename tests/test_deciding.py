@@ -9,7 +9,7 @@ from frontjobs.plays import is_play, trace
 from frontjobs.setups import WRONGS
 from frontjobs.tables import bars, table
 from samples import NEITHER, SETUP, THINGS, put
-from shells import LARGEST, SETUPS, WORKED
+from shells import LARGEST, SETUPS, SMALL, WORKED
 
 LOOK = ("look",)
 
@@ -17,6 +17,9 @@ LOOK = ("look",)
 LONG_ALONE = ((("write", "raw", "read", "again"),), ("fail", "go", "go"), (("group", "go"), ("group",), (), ()))
 ALONE = (("back", 0), ("job", 0), ("job", 0), ("line", 0), ("job", 0), ("shell",), ("job", 0))
 BY_TWO = (("back", 0), ("shell",), ("back", 0), ("job", 1), ("job", 1), ("job", 0))
+
+# A job gets the front, and keeps it when the SCRIPT is OVER.
+BESIDE = ((("group", "raw"), ("write",)), ("stop", "go", "stop"), (("give",), (), (), ()))
 
 
 def starts(run):
@@ -108,7 +111,8 @@ class Papers(unittest.TestCase):
                     self.assertEqual((name, wrong, told), ("written plain", "overwrite", (2, 5)))
 
     def test_each_is_one_and_agrees_with_the_rest(self):
-        for name, setup in list(SETUPS.items()) + [("long alone", LONG_ALONE)]:
+        more = [("long alone", LONG_ALONE), ("in front, and none of a script", BESIDE)]
+        for name, setup in list(SETUPS.items()) + list(SMALL.items()) + more:
             ready = table(setup)
             come = wrongs_of(setup)
             for wrong in WRONGS:
@@ -124,6 +128,20 @@ class Papers(unittest.TestCase):
                 else:
                     self.assertIs(fewest(setup, wrong), None)
                     self.assertEqual(check_paper(setup, wrong, ("never", ready)), "never")
+
+    def test_a_job_in_front_that_no_script_is_done_for(self):
+        # The first job writes behind the second one, which sets the mode when the shell has given it the front.
+        self.assertEqual(fewest(BESIDE, "overwrite"), (2, 6))
+        self.assertEqual(wrongs_of(BESIDE), ("misstop", "misbreak", "unasked", "overwrite", "locked"))
+        word, shown = paper(BESIDE, "overwrite")
+        self.assertEqual((word, trace(BESIDE, shown)[-1], len(shown)), ("comes", "overwrite", 6))
+        self.assertEqual(plain.reached(BESIDE, 2)[1]["overwrite"], (2, 6))
+
+    def test_what_comes_by_other_jobs_of_small_setups(self):
+        for name, setup in SMALL.items():
+            words = plain.closed(setup, plain.table(setup))[1]
+            self.assertEqual(wrongs_of(setup), tuple([wrong for wrong in WRONGS if wrong in words]), name)
+        self.assertEqual(wrongs_of(SMALL["stays in front"]), ("misstop", "misbreak", "locked"))
 
     def test_the_fewest_jobs_go_first(self):
         self.assertEqual(trace(LONG_ALONE, BY_TWO)[-1], "overwrite")

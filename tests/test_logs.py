@@ -202,6 +202,23 @@ class Fits(LogTest):
         self.told(setup, (("fore", 0), ("job", 0), ("front", 0)), True)
         self.told(setup, (("fore", 0), ("stop", 0), ("front", 0)), True, ("misstop",), ("misstop",))
 
+    def test_acts_of_which_nobody_sees_where_they_lead(self):
+        setup = setup_of(("write", "read", "again"), shell=shell_of())
+        log = (("back", 0), ("job", 0), ("line", 0), ("job", 0), ("line", 0))
+        self.told(setup, log, True, ("misread",), ("misread",))
+        self.told(setup, log[:3] + log[4:], False)
+        self.told(setup, log[:2] + log[3:], False)
+
+    def test_a_job_that_has_held_goes_on_so(self):
+        log = (("back", 0), ("job", 0), ("job", 0))
+        for acts in (("hold", "group"), ("group", "hold", "group")):
+            # Behind, it may write as it has HELD: it does not STOP by the first ACT that is seen.
+            setup = setup_of(acts + ("write", "write"), shell=shell_of())
+            self.told(setup, log, True)
+            self.told(setup, log + (("job", 0),), True)
+            self.told(setup, log + (("job", 0),) * 2, False)
+        self.told(setup_of(("group", "group", "write", "write"), shell=shell_of()), log, False)
+
     def test_three_jobs(self):
         setup = setup_of(("read",), ("write",), shell=shell_of(back=("group",), front=("give", "go")))
         log = (("back", 0), ("back", 1), ("back", 0), ("job", 0), ("job", 1), ("front", 0), ("line", 0))

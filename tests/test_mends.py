@@ -198,10 +198,12 @@ class Calls(unittest.TestCase):
 
     def test_bad_wrongs(self):
         for wrong in NEITHER + [0, True, (), "Locked", "locked ", ("locked",), "fore"]:
-            for call in (mended, rules_for):
-                with self.assertRaises(BadWrong) as told:
-                    call(WORKED, wrong)
-                self.assertIs(told.exception.wrong, wrong)
+            # The second SHELL has no MENDs.
+            for setup in (WORKED, put(WORKED, 2, ((), (), (), ()))):
+                for call in (mended, rules_for):
+                    with self.assertRaises(BadWrong) as told:
+                        call(setup, wrong)
+                    self.assertIs(told.exception.wrong, wrong)
 
     def test_by_names(self):
         self.assertEqual(mends(setup=WORKED), mends(WORKED))

@@ -11,7 +11,7 @@ from frontjobs.setups import WRONGS
 from frontjobs.standings import START
 from frontjobs.tables import bars, is_closed, is_table, lean, table
 from samples import NEITHER, SETUP, THINGS, put
-from shells import LARGEST, SETUPS, WORKED
+from shells import LARGEST, SETUPS, SMALL, WORKED
 
 ANY = 0
 SHAPES = 4
@@ -235,6 +235,21 @@ class Ready(unittest.TestCase):
     def test_by_hand(self):
         self.assertEqual(table(IDLER), (IDLE_ROW,))
         self.assertEqual(table(WAITER), WAIT_TABLE)
+
+    def test_it_is_what_a_plain_tree_tells(self):
+        chance = random.Random(29)
+        setups = list(SMALL.values()) + [SETUPS[name] for name in ("stuck", "gives the front away", "waits")]
+        setups += [plain.chance_setup(chance, 2, 1) for _ in range(60)]
+        for setup in setups:
+            ready = table(setup)
+            if len(ready) < 30 or setup in SMALL.values():
+                self.assertEqual(ready, plain.table(setup), setup)
+                for at in range(len(ready)):
+                    left = ready[:at] + ready[at + 1:]
+                    self.assertIs(is_closed(setup, left), plain.closed(setup, left)[0], (setup, at))
+                words = plain.closed(setup, ready)[1]
+                self.assertEqual([wrong for wrong in WRONGS if not bars(setup, wrong, ready)],
+                                 [wrong for wrong in WRONGS if wrong in words], setup)
 
     def test_it_covers_what_plain_runs_lead_to(self):
         for name in ("worked", "stuck", "takes the front", "gives the front away", "counted jobs", "held"):
